@@ -44,21 +44,23 @@ func Reduce(b []byte) api.Fe {
 func FromInt(n uint64) api.Fe { return Join(api.Limbs{n}) }
 
 // Add: the sum.
-func Add(a api.Fe, b api.Fe) api.Fe {
+func Add(a api.Fe, b api.Fe) (out api.Fe) {
 	var x, y number
 	x.load(&a)
 	y.load(&b)
 	x.add(&x, &y)
-	return x.bytes()
+	x.store(&out)
+	return out
 }
 
 // Sub: the difference.
-func Sub(a api.Fe, b api.Fe) api.Fe {
+func Sub(a api.Fe, b api.Fe) (out api.Fe) {
 	var x, y number
 	x.load(&a)
 	y.load(&b)
 	x.sub(&x, &y)
-	return x.bytes()
+	x.store(&out)
+	return out
 }
 
 // Neg: 0 less a.
@@ -68,20 +70,22 @@ func Neg(a api.Fe) api.Fe { return Sub(api.Fe{}, a) }
 func Double(a api.Fe) api.Fe { return Add(a, a) }
 
 // Mul: the product.
-func Mul(a api.Fe, b api.Fe) api.Fe {
+func Mul(a api.Fe, b api.Fe) (out api.Fe) {
 	var x, y number
 	x.load(&a)
 	y.load(&b)
 	x.mul(&x, &y)
-	return x.bytes()
+	x.store(&out)
+	return out
 }
 
 // Square: the product with itself.
-func Square(a api.Fe) api.Fe {
+func Square(a api.Fe) (out api.Fe) {
 	var x number
 	x.load(&a)
 	x.square(&x)
-	return x.bytes()
+	x.store(&out)
+	return out
 }
 
 // Invert: 1 / a; 0 of 0.

@@ -21,14 +21,33 @@ func (z *number) load(a *api.Fe) {
 	z[4] = w3 >> 12
 }
 
-// bytes takes any limbs and reduces them, so that what it answers is canonical.
+// bytes takes any limbs; what it answers is canonical.
 func (z *number) bytes() (a api.Fe) {
 	z.reduce()
-	putWord(a[0:8], z[0]|z[1]<<51)
-	putWord(a[8:16], z[1]>>13|z[2]<<38)
-	putWord(a[16:24], z[2]>>26|z[3]<<25)
-	putWord(a[24:32], z[3]>>39|z[4]<<12)
+	pack(&a, z[0], z[1], z[2], z[3], z[4])
 	return a
+}
+
+// store lays down the canonical bytes. Once all is carried up, a highest limb below that of p tells that the number is below p; it is seldom otherwise, and so the longer way of reduce is seldom gone.
+func (z *number) store(a *api.Fe) {
+	l0 := z[0]
+	l1 := z[1] + l0>>51
+	l2 := z[2] + l1>>51
+	l3 := z[3] + l2>>51
+	l4 := z[4] + l3>>51
+	if l4 >= low51 {
+		*a = z.bytes()
+		return
+	}
+	pack(a, l0&low51, l1&low51, l2&low51, l3&low51, l4)
+}
+
+// pack lays limbs below 2^51 side by side.
+func pack(a *api.Fe, l0, l1, l2, l3, l4 uint64) {
+	putWord(a[0:8], l0|l1<<51)
+	putWord(a[8:16], l1>>13|l2<<38)
+	putWord(a[16:24], l2>>26|l3<<25)
+	putWord(a[24:32], l3>>39|l4<<12)
 }
 
 // word and putWord are written out, because the compiler makes one load and one store of them, and not of a loop.
