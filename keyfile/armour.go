@@ -68,9 +68,6 @@ func isLabel(label string) bool {
 }
 
 func areHeaders(headers []api.Header) bool {
-	if len(headers) > mostHeaders {
-		return false
-	}
 	for i := range len(headers) {
 		if !isNext(headers[:i], headers[i]) {
 			return false

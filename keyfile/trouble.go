@@ -1,6 +1,9 @@
 package keyfile
 
-import "strconv"
+import (
+	"strconv"
+	"strings"
+)
 
 // Trouble is at which step and in which line something is wrong, and what is behind it.
 type Trouble struct {
@@ -9,16 +12,26 @@ type Trouble struct {
 	Err  error
 }
 
-// Error: its text.
+// Error: its text. Troubles within one another are gone through in a loop, as there may be many.
 func (t *Trouble) Error() string {
-	if t == nil {
-		return ""
+	var text strings.Builder
+	for t != nil {
+		text.WriteString(t.place() + ": ")
+		within, isTrouble := t.Err.(*Trouble)
+		if !isTrouble {
+			text.WriteString(textOf(t.Err))
+		}
+		t = within
 	}
-	place := ""
-	if t.Line != 0 {
-		place = " in line " + strconv.Itoa(t.Line)
+	return text.String()
+}
+
+// place: the step, and the line, if it is in one.
+func (t *Trouble) place() string {
+	if t.Line == 0 {
+		return t.Step
 	}
-	return t.Step + place + ": " + textOf(t.Err)
+	return t.Step + " in line " + strconv.Itoa(t.Line)
 }
 
 // Unwrap: what is behind it.
