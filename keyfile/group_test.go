@@ -132,6 +132,7 @@ func TestUnpackGroupArmour(t *testing.T) {
 		wantUnpackGroupTrouble(t, text[:n], api.ErrArmour, place{"armour", strings.Count(text[:n], "\n") + 1})
 	}
 	wantUnpackGroupTrouble(t, strings.Repeat("\n", api.MaxText+1), api.ErrText, place{"armour", 0})
+	wantUnpackGroupTrouble(t, modelArmour(groupLabel, nil, make([]byte, mostBytes+1)), api.ErrArmour, place{"armour", firstTooMuch})
 	body := bodyOfKeys(group())
 	for _, label := range []string{"A", shareLabel, "RIME GROUP KEY", "RIME GROUP KEYS 2"} {
 		wantUnpackGroupTrouble(t, modelArmour(label, nil, body), api.ErrArmour, place{"label", 1})

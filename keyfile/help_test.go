@@ -75,6 +75,9 @@ func modelDerive(pass []byte, salt []byte, rounds int, size int) []byte {
 
 // Armour.
 
+// mostBytes: of more there is no armour.
+const mostBytes = api.MaxText / 2
+
 func modelArmour(label string, headers []api.Header, b []byte) string {
 	lines := []string{"-----BEGIN " + label + "-----"}
 	for _, h := range headers {
@@ -182,6 +185,9 @@ func (p *parts) rest(lines []string) bool {
 			return false
 		}
 		p.bytes = append(p.bytes, b...)
+	}
+	if len(p.bytes) > mostBytes {
+		return false
 	}
 	if len(p.bytes)%48 != 0 {
 		p.state = atCheck

@@ -78,7 +78,7 @@ func (r *reader) head(line string) bool {
 	return true
 }
 
-// body: bytes, or what checks them. Behind a line that is not full no more bytes can come.
+// body: bytes, or what checks them. Behind a line that is not full no more bytes can come; of more bytes than Armour takes no text is the armour.
 func (r *reader) body(line string) bool {
 	if strings.HasPrefix(line, filling) {
 		return r.check(line)
@@ -91,7 +91,7 @@ func (r *reader) body(line string) bool {
 	if len(b) < lineLetters/4*3 {
 		r.next = r.check
 	}
-	return ok
+	return ok && len(r.bytes) <= longestBytes
 }
 
 func (r *reader) check(line string) bool {

@@ -187,16 +187,70 @@ func TestParseLong(t *testing.T) {
 	full := strings.Repeat(strings.Repeat("A", 64)+"\n", (api.MaxText-19)/65)
 	text := "-----BEGIN A-----\n\n" + full
 	text += strings.Repeat("x", api.MaxText-len(text))
-	wantFault(t, text, strings.Count(text, "\n")+1)
+	wantFault(t, text, firstTooMuch)
 }
 
-// The text of the most bytes that Armour takes, and one that is an armour of more, if only as text.
+// firstTooMuch is the line by which the bytes come to be too many, of an armour without headers: the two lines ahead of the bytes, the full lines of as many as there may be, and it.
+const firstTooMuch = 2 + mostBytes/48 + 1
+
+// wantTaken: Parse takes the text of these, and Armour writes it.
+func wantTaken(t *testing.T, label string, headers []api.Header, b []byte) {
+	t.Helper()
+	text := modelArmour(label, headers, b)
+	l, hs, got, errno, line := keyfile.Parse(text)
+	if l != label || !slices.Equal(hs, headers) || string(got) != string(b) || errno != api.OK || line != 0 {
+		t.Fatalf("Parse of the armour of %d bytes: %q %q %d bytes %v in line %d", len(b), l, hs, len(got), errno, line)
+	}
+	if again, errno := keyfile.Armour(l, hs, got); errno != api.OK || again != text {
+		t.Fatalf("Armour of %d bytes: %d letters, %v", len(b), len(again), errno)
+	}
+}
+
+// The texts of the most bytes that Armour takes, and of fewer, whose last lines end anyhow.
 func TestParseMost(t *testing.T) {
-	b := drawnBytes(drawn(25), api.MaxText/2+100)
-	for _, n := range []int{api.MaxText / 2, api.MaxText/2 + 1, len(b)} {
-		label, headers, got, errno, line := keyfile.Parse(modelArmour("A", nil, b[:n]))
-		if label != "A" || len(headers) != 0 || string(got) != string(b[:n]) || errno != api.OK || line != 0 {
-			t.Fatalf("Parse of the armour of %d bytes: %q %q %d bytes %v in line %d", n, label, headers, len(got), errno, line)
+	b := drawnBytes(drawn(25), mostBytes)
+	for _, n := range []int{mostBytes, mostBytes - 1, mostBytes - 2, mostBytes - mostBytes%48, mostBytes - mostBytes%48 - 1} {
+		wantTaken(t, "A", nil, b[:n])
+	}
+	var headers []api.Header
+	for i := range 16 {
+		headers = append(headers, api.Header{Name: strings.Repeat("n", 31) + string(rune('A'+i)), Value: strings.Repeat("v", 200)})
+	}
+	wantTaken(t, strings.Repeat("A", 32), headers, b)
+}
+
+// P14.6: what Armour refuses to write is no text that Parse takes.
+func TestParseTooMuch(t *testing.T) {
+	b := drawnBytes(drawn(26), api.MaxText*3/4)
+	for _, n := range []int{mostBytes + 1, mostBytes + 2, mostBytes + 3, mostBytes + 15, mostBytes + 16, mostBytes + 17, mostBytes + 64, mostBytes + 4800, api.MaxText*3/4 - api.MaxText/64} {
+		text := modelArmour("A", nil, b[:n])
+		if len(text) > api.MaxText {
+			t.Fatalf("the text of %d bytes is too long", n)
 		}
+		wantNoArmour(t, "A", nil, b[:n], api.ErrLong)
+		wantFault(t, text, firstTooMuch)
+		wantFault(t, modelArmour("A", sixteen(), b[:n]), firstTooMuch+16)
+	}
+}
+
+// A fault ahead of the line by which the bytes are too many goes ahead of it; one in it or behind it changes nothing.
+func TestParseTooMuchTurned(t *testing.T) {
+	text := modelArmour("A", nil, drawnBytes(drawn(27), mostBytes+200))
+	lines := linesOf(text)
+	turn := func(line int, to string) string {
+		other := slices.Clone(lines)
+		other[line-1] = to
+		return strings.Join(other, "")
+	}
+	for line, told := range map[int]int{1: 1, 2: 2, 3: 3, firstTooMuch - 1: firstTooMuch - 1, firstTooMuch: firstTooMuch, firstTooMuch + 1: firstTooMuch, len(lines) - 1: firstTooMuch, len(lines): firstTooMuch} {
+		wantFault(t, turn(line, "~\n"), told)
+	}
+	ahead := strings.Join(lines[:firstTooMuch-1], "")
+	wantFault(t, ahead, firstTooMuch)
+	wantFault(t, ahead+lines[firstTooMuch-1][:64], firstTooMuch)
+	wantFault(t, ahead+lines[firstTooMuch-1], firstTooMuch)
+	wantFault(t, ahead+"=\n", firstTooMuch)
+	for last, told := range map[string]int{"AA==": 1, "AAA=": 1, "AAE=": 1, "AAB=": 0, "AAAA": 0, "AAAAAA==": 0} {
+		wantFault(t, ahead+strings.Repeat("A", 40)+last+"\n", firstTooMuch+told)
 	}
 }

@@ -136,6 +136,10 @@ func TestUnpackArmour(t *testing.T) {
 	wantUnpackTrouble(t, modelArmour("RIME GROUP KEYS", nil, []byte("x")), h.pass, api.ErrArmour, place{"label", 1})
 	wantUnpackTrouble(t, strings.ReplaceAll(text, "RIME KEY SHARE", "RIME KEY SHARES"), h.pass, api.ErrArmour, place{"label", 1})
 	wantUnpackTrouble(t, strings.ReplaceAll(text, "RIME KEY SHARE", "A"), h.pass, api.ErrArmour, place{"label", 1})
+	for _, label := range []string{shareLabel, "A"} {
+		tooMuch := modelArmour(label, h.headers(), make([]byte, mostBytes+1))
+		wantUnpackTrouble(t, tooMuch, h.pass, api.ErrArmour, place{"armour", firstTooMuch + 3})
+	}
 	_, err := keyfile.Unpack("", nil)
 	wantText(t, err, "armour in line 1: rime 142")
 	_, err = keyfile.Unpack(modelArmour("A", nil, nil), nil)
